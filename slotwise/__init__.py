@@ -1,0 +1,1 @@
+"""Slotwise: nested products with exact price ranges and certificates."""

@@ -1,0 +1,121 @@
+"""Tests of the form of the package: the rules of LANGUAGE.md that are plain to check."""
+
+import ast
+import builtins
+import pathlib
+import unittest
+
+PACKAGE = pathlib.Path(__file__).resolve().parent.parent / "slotwise"
+LIBRARY = {
+    "heapq": ("heappush", "heappop", "heapify", "heapreplace", "heappushpop"),
+    "math": ("gcd", "lcm", "isqrt", "comb", "perm", "factorial"),
+    "itertools": (
+        "product", "combinations", "permutations", "chain", "accumulate", "pairwise", "islice", "zip_longest",
+    ),
+    "collections": ("defaultdict",),
+}
+ALLOWED_BUILTINS = set(
+    "len range enumerate zip min max sum abs sorted reversed int str bool bytes list tuple dict set frozenset isinstance"
+    " ord repr any all divmod pow getattr hasattr setattr iter next map super property staticmethod classmethod object"
+    " Exception ValueError TypeError KeyError IndexError LookupError ZeroDivisionError ArithmeticError OverflowError"
+    " RuntimeError NotImplementedError AttributeError StopIteration NotImplemented".split()
+)
+BARRED_NODES = (ast.Global, ast.AsyncFunctionDef, ast.AsyncFor, ast.AsyncWith, ast.Await, ast.Div, ast.Import)
+DECORATORS = ("property", "staticmethod", "classmethod")
+BARRED_WORDS = ("_wall", "_WallAttr", "dataclass", "overload", "contextmanager")
+
+
+def files():
+    """The files of the package with their texts and syntax trees."""
+    for path in sorted(PACKAGE.glob("*.py")):
+        text = path.read_text(encoding="utf-8")
+        yield path, text, ast.parse(text)
+
+
+def bound_names(tree):
+    """All names that a file binds in any way."""
+    for node in ast.walk(tree):
+        if isinstance(node, ast.Name) and isinstance(node.ctx, ast.Store):
+            yield node.id
+        elif isinstance(node, (ast.FunctionDef, ast.ClassDef)):
+            yield node.name
+        elif isinstance(node, ast.arg):
+            yield node.arg
+        elif isinstance(node, ast.alias):
+            yield node.asname or node.name
+
+
+class TestLanguage(unittest.TestCase):
+    def test_the_folder_contains_only_its_files(self):
+        for path in PACKAGE.iterdir():
+            if path.name != "__pycache__":
+                self.assertRegex(path.name, r"^[a-z_]+\.py$")
+
+    def test_sizes_and_characters(self):
+        for path, text, tree in files():
+            lines = text.splitlines()
+            self.assertLessEqual(len(lines), 399, path.name)
+            self.assertTrue(all(len(line) <= 120 for line in lines), path.name)
+            self.assertTrue(all(mark == "\n" or " " <= mark <= "~" for mark in text), path.name)
+            for node in ast.walk(tree):
+                if isinstance(node, ast.FunctionDef):
+                    self.assertLessEqual(node.end_lineno - node.lineno + 1, 40, (path.name, node.name))
+
+    def test_imports(self):
+        for path, _, tree in files():
+            for node in ast.walk(tree):
+                if isinstance(node, ast.ImportFrom):
+                    self.assertEqual(node.level, 0)
+                    if node.module in LIBRARY:
+                        self.assertTrue(all(name.name in LIBRARY[node.module] for name in node.names))
+                    else:
+                        self.check_own_import(node)
+
+    def check_own_import(self, node):
+        """Check that the names are defined in the very file that is imported from."""
+        package, _, module = node.module.partition(".")
+        self.assertEqual(package, "slotwise")
+        imported = ast.parse((PACKAGE / (module + ".py")).read_text(encoding="utf-8"))
+        defined = set()
+        for statement in imported.body:
+            if isinstance(statement, (ast.FunctionDef, ast.ClassDef)):
+                defined.add(statement.name)
+            elif isinstance(statement, ast.Assign):
+                defined.update(target.id for target in statement.targets)
+        for name in node.names:
+            self.assertIsNone(name.asname)
+            self.assertIn(name.name, defined)
+
+    def test_statements_and_expressions(self):
+        for path, _, tree in files():
+            for node in ast.walk(tree):
+                self.assertNotIsInstance(node, BARRED_NODES, (path.name, getattr(node, "lineno", 0)))
+                if isinstance(node, ast.Constant) and not isinstance(node.value, (int, str, type(None))):
+                    self.fail((path.name, node.value))
+                if isinstance(node, ast.Constant) and isinstance(node.value, str):
+                    self.assertNotIn("%", node.value)
+                if isinstance(node, ast.FunctionDef):
+                    for decorator in node.decorator_list:
+                        self.assertTrue(ast.unparse(decorator) in DECORATORS or decorator.attr == "setter")
+
+    def test_names(self):
+        known = set(dir(builtins))
+        for path, text, tree in files():
+            bound = set(bound_names(tree))
+            self.assertEqual(bound & known, set(), path.name)
+            used = {node.id for node in ast.walk(tree) if isinstance(node, ast.Name)}
+            self.assertLessEqual(used & known - bound, ALLOWED_BUILTINS, path.name)
+            for word in BARRED_WORDS:
+                self.assertNotIn(word, text)
+
+    def test_module_level(self):
+        allowed = (ast.Expr, ast.ImportFrom, ast.FunctionDef, ast.ClassDef, ast.Assign)
+        for path, _, tree in files():
+            for statement in tree.body:
+                self.assertIsInstance(statement, allowed, path.name)
+                if isinstance(statement, ast.Expr):
+                    self.assertIsInstance(statement.value, ast.Constant, path.name)
+
+
+if __name__ == "__main__":
+    unittest.main()
