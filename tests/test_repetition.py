@@ -151,6 +151,13 @@ class TestFindRepetition(unittest.TestCase):
         # State 0 is the least one; the way from it to itself leads through state 1.
         self.assertEqual(find_repetition(family), ((0, 1, 2, 1, 3), 2, 4))
 
+    def test_the_least_state_of_those_that_lead_to_one_another(self):
+        # State 2 also needs state 0, which leads nowhere.
+        family = (3, (1,), ((1, (2,), 4), (2, (1,), 2), (2, (0,), 1), (0, (), 1)))
+        self.assertEqual(find_repetition(family), ((0, 1, 0, 2, 3), 0, 2))
+        family = (4, (0,), ((0, (3,), 1), (0, (1,), 1), (3, (2,), 1), (2, (3,), 1), (2, (), 1), (1, (), 9), (1, (1,), 1)))
+        self.assertEqual(find_repetition(family), ((1, 6, 5), 1, 2))
+
     def test_first_trees_beside_the_ways(self):
         family = (3, (0,), ((0, (1, 2, 1), 4), (1, (), 2), (1, (), 1), (2, (1, 2, 1), 0), (2, (), 3)))
         self.assertEqual(find_repetition(family), ((0, 2, 3, 2, 4, 2, 2), 2, 4))
