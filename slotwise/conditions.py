@@ -25,6 +25,24 @@ OPERAND_KINDS = {
 
 ARITHMETIC = ("minus", "+", "-", "*")
 
+# How closely the operators bind their operands in texts; a greater number binds more closely.
+BINDING = {
+    "implies": 1,
+    "or": 2,
+    "and": 3,
+    "not": 4,
+    "=": 5,
+    "!=": 5,
+    "<": 5,
+    "<=": 5,
+    ">": 5,
+    ">=": 5,
+    "+": 6,
+    "-": 6,
+    "*": 7,
+    "minus": 8,
+}
+
 
 def measure(expression):
     """The pair of the number of places and the depth of the expression."""

@@ -146,3 +146,90 @@ LAMPS = (
     ),
     "whole",
 )
+
+# Racks of bays: a definition with finitely many products, with slots that compete for a place and a
+# component that is never a part of a product.
+LEVEL = ("level", ("range", 0, 1))
+RACKS = (
+    (("frame", ()), ("bay", (SIZE,)), ("hook", (LEVEL,)), ("void", ())),
+    (
+        ("rack", "frame", (), (("left", "bay"), ("right", "bay")),
+         (("implies", ("=", variable("right.size"), ("option", "large")),
+           ("=", variable("left.size"), variable("right.size"))),),
+         (), 10, ((("=", variable("left.size"), ("option", "large")), 3),)),
+        ("single", "frame", (), (("left", "bay"),), (), (), 4, ()),
+        ("box", "bay", (("color", ("options", ("red", "blue"))),), (("inner", "hook"),),
+         (("implies", ("=", variable("plug.size"), ("option", "large")),
+           ("=", variable("inner.level"), ("number", 1))),),
+         (), 5, ((("=", variable("color"), ("option", "blue")), 2),)),
+        ("lid", "bay", (), (), (), ((("plug.size",), (("small",), ("none",))),), 2, ()),
+        ("pin", "hook", (), (), (), (), 1, ((("=", variable("plug.level"), ("number", 1)), 2),)),
+        ("ring", "hook", (("color", ("options", ("green", "red"))),), (), (), (), 2, ()),
+        ("spare", "bay", (), (("gap", "void"),), (), (), 0, ()),
+    ),
+    "frame",
+)
+
+
+def names_by_chance(family, chance):
+    """Slot names of the family: for each variant different ones of a few names, mostly the first ones."""
+    names = ("a", "b", "c")
+    return tuple(
+        names[:len(slots)] if chance.random() < 0.6 else tuple(chance.sample(names, len(slots)))
+        for _, slots, _ in family[2]
+    )
+
+
+def demands_by_chance(family, chance, *, most=3, longest=2):
+    """Up to `most` demands for the family, with paths of at most `longest` names; mostly lenient ones."""
+    demands = []
+    for _ in range(chance.randint(0, most)):
+        path = tuple(chance.choice("aaaaabbcx") for _ in range(chance.randint(0, longest)))
+        kept = chance.choice((0.2, 0.6, 0.8, 0.9, 1))
+        demands.append((path, tuple(number for number in range(len(family[2])) if chance.random() < kept)))
+    return tuple(demands)
+
+
+def finite_family_by_chance(chance, *, states=4, variants=12, low=0):
+    """A family in which each slot needs a later state than its variant has: no tree has more than 15 parts."""
+    count = chance.randint(1, states)
+    rows = []
+    for _ in range(chance.randint(count, variants)):
+        plug = chance.randrange(count)
+        many = 0 if plug == count - 1 else chance.choice((0, 1, 1, 2))
+        price = None if chance.random() < 0.1 else chance.randint(low, 5)
+        rows.append((plug, tuple(chance.randrange(plug + 1, count) for _ in range(many)), price))
+    roots = tuple(state for state in range(count) if state == 0 or chance.random() < 0.3)
+    return (count, roots, tuple(rows))
+
+
+def paths_in(family, names, tree):
+    """The path of each part, in the order of the parts."""
+    found = []
+    waiting = [()]
+    for number in tree:
+        path = waiting.pop()
+        found.append(path)
+        waiting.extend(path + (name,) for name in names[number][::-1])
+    return found
+
+
+def meets(family, names, tree, demands):
+    """Whether the tree satisfies the demands, by the paths of all its parts."""
+    at = dict(zip(paths_in(family, names, tree), tree))
+    return all(path in at and at[path] in allowed for path, allowed in demands)
+
+
+def expression_by_chance(chance, depth, names=("a", "b.size", "minus", "to")):
+    """An expression whose operands may have wrong kinds."""
+    if depth == 1 or chance.random() < 0.2:
+        return chance.choice((
+            ("number", chance.choice((0, 7, 999999))), ("option", chance.choice(("red", "and", "a b", "1 = (", "not"))),
+            ("true",), ("false",), variable(chance.choice(names)), variable(chance.choice(names)),
+        ))
+    operator = chance.choice((
+        "minus", "not", "not", "+", "-", "*", "+", "-", "*", "=", "!=", "<", "<=", ">", ">=", "and", "or", "implies",
+        "and", "or", "implies",
+    ))
+    many = 1 if operator in ("minus", "not") else 2
+    return (operator,) + tuple(expression_by_chance(chance, depth - 1, names) for _ in range(many))
