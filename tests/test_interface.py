@@ -7,8 +7,14 @@ import unittest
 INTERFACE = {
     "conditions": ("measure(expression)", "variables_in(expression)", "kind_of(expression, kinds)",
                    "check_condition(expression, kinds)"),
+    "evaluation": ("value_of(expression, values)", "holds(condition, values)"),
+    "tokens": ("tokens_of(text)",),
+    "reader": ("read_condition(text)",),
+    "printer": ("show_condition(expression)",),
     "definitions": ("check_definition(definition)",),
     "domains": ("port_states(definition)", "variables_of(definition, component)"),
+    "variants": ("variants_of(definition, component)", "family_of(definition)", "slot_names_of(definition)"),
+    "listing": ("read_definition(text)", "show_definition(definition)"),
     "trees": ("is_tree(family, state, tree)", "is_product(family, tree)", "price_of(family, tree)",
               "span_of(family, tree, number)", "places_of(family, tree)", "with_part(family, tree, number, other)",
               "comes_before(family, first, second)"),
@@ -23,6 +29,30 @@ INTERFACE = {
     "ranking": ("trees_of_size(family, state, parts)", "least_by_size(family, state, most)",
                 "first_products(family, *, many=10, most=8)"),
     "demands": ("part_at(family, names, tree, path)", "satisfies(family, names, tree, demands)", "paths_of(demands)"),
+    "special": ("specialised(family, names, demands)", "least_with(family, names, demands)",
+                "first_with(family, names, demands)"),
+    "explanations": ("is_feasible(family, names, demands, budget)",
+                     "explanation_of(family, names, demands, demand, budget)",
+                     "kept_of(family, names, demands, demand, budget)"),
+    "choices": ("demand_of(catalogue, choice)",),
+    "journals": ("replayed(catalogue, journal)",),
+}
+
+# For each class its module, its methods, and its properties. Of a catalogue there is what is needed so far.
+CLASSES = {
+    "Board": ("boards", ("__init__(self, family)", "reprice(self, variant, price)", "undo(self)", "cheapest(self)"),
+              ("family", "weights", "changes")),
+    "Catalogue": ("catalogues", ("__init__(self, definition)", "product_of(self, tree)", "tree_of(self, product)"),
+                  ("definition", "family", "variants", "slot_names")),
+    "Configuration": (
+        "configurations",
+        ("__init__(self, catalogue)", "__len__(self)", "__iter__(self)", "__contains__(self, product)",
+         "choose(self, path, name, value)", "retract(self, path, name)", "exchange(self, path, name, value)",
+         "set_budget(self, budget)", "undo(self)", "offers(self, path, name)", "names_at(self, path)",
+         "slots_at(self, path)", "witness(self, path, name, value)", "explanation(self, path, name, value)",
+         "price_range(self)", "cheapest(self)", "product_count(self)", "first_products(self, *, many=10, most=8)"),
+        ("catalogue", "choices", "demands", "budget", "changes", "journal"),
+    ),
 }
 
 
@@ -36,6 +66,16 @@ class TestInterface(unittest.TestCase):
                 self.assertTrue(inspect.isfunction(function), name)
                 self.assertEqual(name + str(inspect.signature(function)), told)
                 self.assertEqual(function.__module__, "slotwise." + module_name)
+
+    def test_classes(self):
+        for name, (module_name, methods, properties) in CLASSES.items():
+            made = getattr(importlib.import_module("slotwise." + module_name), name)
+            self.assertEqual(made.__module__, "slotwise." + module_name)
+            for told in methods:
+                method = vars(made)[told.partition("(")[0]]
+                self.assertEqual(method.__name__ + str(inspect.signature(method)), told)
+            for told in properties:
+                self.assertIsInstance(vars(made)[told], property)
 
 
 if __name__ == "__main__":
