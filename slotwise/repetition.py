@@ -74,7 +74,7 @@ def _distances(rows, goal):
     layer = [goal]
     while layer:
         further = []
-        for state in layer:
+        for state in list(layer):
             for source in sources[state]:
                 if far[source] is None:
                     far[source] = far[state] + 1

@@ -45,6 +45,55 @@ def bound_names(tree):
             yield node.asname or node.name
 
 
+CHANGING_METHODS = ("append", "clear", "extend", "insert", "pop", "remove", "reverse", "setdefault", "sort", "update")
+
+
+def names_of_one_list(function):
+    """For each name in the function the names that may stand for the same list, by plain assignments."""
+    groups = {}
+    for node in ast.walk(function):
+        if isinstance(node, ast.Assign) and isinstance(node.value, ast.Name):
+            for target in node.targets:
+                if isinstance(target, ast.Name):
+                    joined = groups.get(target.id, {target.id}) | groups.get(node.value.id, {node.value.id})
+                    groups.update({name: joined for name in joined})
+    return groups
+
+
+def walked_names(node):
+    """The names that a loop over this expression walks, also by enumerate, zip, reversed and choices."""
+    if isinstance(node, ast.Name):
+        yield node.id
+    elif isinstance(node, ast.Call) and isinstance(node.func, ast.Name):
+        if node.func.id in ("enumerate", "zip", "reversed"):
+            for argument in node.args:
+                yield from walked_names(argument)
+    elif isinstance(node, ast.Call) and isinstance(node.func, ast.Attribute):
+        if node.func.attr in ("items", "keys", "values"):
+            yield from walked_names(node.func.value)
+    elif isinstance(node, ast.IfExp):
+        yield from walked_names(node.body)
+        yield from walked_names(node.orelse)
+    elif isinstance(node, ast.BoolOp):
+        for value in node.values:
+            yield from walked_names(value)
+
+
+def changed_names(statements):
+    """The names of what the statements change by a method, an item, a heap or `+=`."""
+    for statement in statements:
+        for node in ast.walk(statement):
+            if isinstance(node, ast.Call) and isinstance(node.func, ast.Attribute):
+                if node.func.attr in CHANGING_METHODS and isinstance(node.func.value, ast.Name):
+                    yield node.func.value.id
+            elif isinstance(node, ast.Call) and isinstance(node.func, ast.Name) and node.func.id in LIBRARY["heapq"]:
+                yield from walked_names(node.args[0])
+            elif isinstance(node, ast.Subscript) and not isinstance(node.ctx, ast.Load):
+                yield from walked_names(node.value)
+            elif isinstance(node, ast.AugAssign):
+                yield from walked_names(node.target)
+
+
 class TestLanguage(unittest.TestCase):
     def test_the_folder_contains_only_its_files(self):
         for path in PACKAGE.iterdir():
@@ -107,6 +156,17 @@ class TestLanguage(unittest.TestCase):
             self.assertLessEqual(used & known - bound, ALLOWED_BUILTINS, path.name)
             for word in BARRED_WORDS:
                 self.assertNotIn(word, text)
+
+    def test_no_loop_changes_what_it_walks(self):
+        for path, _, tree in files():
+            for function in ast.walk(tree):
+                if isinstance(function, ast.FunctionDef):
+                    one_list = names_of_one_list(function)
+                    for loop in ast.walk(function):
+                        if isinstance(loop, ast.For):
+                            changed = set(changed_names(loop.body))
+                            for name in walked_names(loop.iter):
+                                self.assertEqual(one_list.get(name, {name}) & changed, set(), (path.name, loop.lineno))
 
     def test_module_level(self):
         allowed = (ast.Expr, ast.ImportFrom, ast.FunctionDef, ast.ClassDef, ast.Assign)
