@@ -1,4 +1,4 @@
-"""What the modules about families share: rows, links and groups of states, and the bound for trees."""
+"""What the modules about families share: other prices, rows, links and groups of states, and the bound for trees."""
 
 from slotwise.errors import TooManyParts
 
@@ -9,6 +9,20 @@ def check_parts(parts):
     """Raise TooManyParts if a tree with this number of parts is not returned [105]."""
     if parts > MOST_PARTS:
         raise TooManyParts(parts)
+
+
+def repriced(family, prices):
+    """The family in which the variants have these prices, None for those that are missing."""
+    count, roots, variants = family
+    rows = [(variant[0], variant[1], price) for variant, price in zip(variants, prices)]
+    return (count, roots, tuple(rows))
+
+
+def without(family, numbers):
+    """The family in which the numbered variants are missing."""
+    barred = set(numbers)
+    prices = [None if number in barred else variant[2] for number, variant in enumerate(family[2])]
+    return repriced(family, prices)
 
 
 def rows_by_state(family, numbers):

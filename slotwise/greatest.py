@@ -1,6 +1,6 @@
 """Greatest prices, dearest trees and the range of the prices of products [200] to [202]."""
 
-from slotwise.families import groups_of, links_of, rows_by_state
+from slotwise.families import groups_of, links_of, repriced, rows_by_state
 from slotwise.least import first_tree, least_weights
 from slotwise.useful import fillable_variants, useful_variants
 
@@ -34,24 +34,29 @@ def dearest_tree(family, state):
     # Exactly the trees of variants that cost the greatest price have this price. Without
     # prices, the first one of them is the one that comes first among equally dear trees.
     tight = [
-        (plug, slots, 0 if price is not None and _cost(slots, price, prices) == prices[plug] else None)
+        0 if price is not None and _cost(slots, price, prices) == prices[plug] else None
         for plug, slots, price in family[2]
     ]
-    return first_tree((family[0], family[1], tuple(tight)), state)
+    return first_tree(repriced(family, tight), state)
 
 
 def price_range(family):
     """The pair of the least and the greatest price of a product, None if there is no product."""
-    weights = least_weights(family)
-    roots = [root for root in family[1] if weights[root] is not None]
-    if not roots:
+    greatest = greatest_product_price(family)
+    if greatest is None:
         return None
+    weights = least_weights(family)
+    least = min([weights[root][0] for root in family[1] if weights[root] is not None])
+    return (least, None if greatest == UNBOUNDED else greatest)
+
+
+def greatest_product_price(family):
+    """The greatest price of the products, "unbounded", or None if there is no product; prices may be negative."""
     prices = greatest_prices(family)
     greatest = None
-    for root in roots:
+    for root in family[1]:
         greatest = _greater(greatest, prices[root])
-    least = min([weights[root][0] for root in roots])
-    return (least, None if greatest == UNBOUNDED else greatest)
+    return greatest
 
 
 def price_ceiling(family):

@@ -9,7 +9,7 @@ def least_round(family, weights):
     """The weights of the states after one round, by the weights before it."""
     found = [None] * family[0]
     for plug, slots, price in family[2]:
-        weight = _weight(slots, price, weights)
+        weight = weight_of(slots, price, weights)
         if weight is not None and (found[plug] is None or weight < found[plug]):
             found[plug] = weight
     return tuple(found)
@@ -37,7 +37,7 @@ def least_weights(family):
                 empty_slots[number] -= 1
                 if empty_slots[number] == 0:
                     plug, slots, own = variants[number]
-                    heappush(queue, _weight(slots, own, weights) + (plug,))
+                    heappush(queue, weight_of(slots, own, weights) + (plug,))
     return tuple(weights)
 
 
@@ -70,12 +70,22 @@ def cheapest(family):
     return min([grown(family, chosen, root) for root in filled if weights[root] == least])
 
 
+def weight_of(slots, price, weights):
+    """The weight of a variant with these slots and this price, None if it does not exist."""
+    if price is None:
+        return None
+    inside = [weights[state] for state in slots]
+    if None in inside:
+        return None
+    return (price + sum([weight[0] for weight in inside]), 1 + sum([weight[1] for weight in inside]))
+
+
 def first_variants(family, weights):
     """For each state the root of its first tree, by the least weights; None for a state without a tree."""
     chosen = [None] * family[0]
     for number, (plug, slots, price) in enumerate(family[2]):
         if weights[plug] is not None and chosen[plug] is None:
-            if _weight(slots, price, weights) == weights[plug]:
+            if weight_of(slots, price, weights) == weights[plug]:
                 chosen[plug] = number
     return chosen
 
@@ -89,13 +99,3 @@ def grown(family, chosen, state):
         tree.append(number)
         waiting.extend(family[2][number][1][::-1])
     return tuple(tree)
-
-
-def _weight(slots, price, weights):
-    """The weight of a variant with these slots and this price, None if it does not exist."""
-    if price is None:
-        return None
-    inside = [weights[state] for state in slots]
-    if None in inside:
-        return None
-    return (price + sum([weight[0] for weight in inside]), 1 + sum([weight[1] for weight in inside]))

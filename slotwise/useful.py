@@ -1,6 +1,6 @@
 """Which states are filled and reached, and which variants are useful [140]."""
 
-from slotwise.families import links_of, reach, users_of
+from slotwise.families import links_of, reach, repriced, users_of
 
 
 def filled_states(family):
@@ -22,13 +22,9 @@ def useful_variants(family):
 
 def trimmed(family):
     """The family in which all variants that are not useful are missing."""
-    count, roots, variants = family
     useful = set(useful_variants(family))
-    kept = [
-        (plug, slots, price if number in useful else None)
-        for number, (plug, slots, price) in enumerate(variants)
-    ]
-    return (count, roots, tuple(kept))
+    prices = [variant[2] if number in useful else None for number, variant in enumerate(family[2])]
+    return repriced(family, prices)
 
 
 def fillable_variants(family):
