@@ -233,3 +233,37 @@ def expression_by_chance(chance, depth, names=("a", "b.size", "minus", "to")):
     ))
     many = 1 if operator in ("minus", "not") else 2
     return (operator,) + tuple(expression_by_chance(chance, depth - 1, names) for _ in range(many))
+
+
+def row_definition(needs, *, missing=False):
+    """Components in a row: each one needs the next one as often as told; the last one needs nothing, or is missing."""
+    ports = tuple((name, ()) for name in ("first", "second", "third", "fourth", "fifth", "sixth"))
+    components = []
+    for number, many in enumerate(needs + (0,)):
+        slots = tuple((f"s{at}", ports[number + 1][0]) for at in range(many))
+        components.append((f"c{number}", ports[number][0], (), slots, (), (), 1, ()))
+    return (ports, tuple(components[:-1] if missing else components), "first")
+
+
+def condition_by_chance(names, chance):
+    """A condition that compares two variables with the options small and large, or one with one of them."""
+    first = variable(chance.choice(names))
+    second = variable(chance.choice(names)) if chance.random() < 0.5 else ("option", chance.choice(("small", "large")))
+    return (chance.choice(("=", "!=")), first, second)
+
+
+def definition_by_chance(chance, *, ports=(("base", ()), ("upper", (SIZE,)), ("lower", (SIZE,)))):
+    """A valid definition in which each slot needs a later port kind than its component has as plug."""
+    components = []
+    for number in range(chance.randint(3, 6)):
+        plug = 0 if number == 0 else chance.randrange(len(ports))
+        many = 0 if plug == len(ports) - 1 else chance.choice((1, 1, 2))
+        slots = tuple((name, ports[chance.randrange(plug + 1, len(ports))][0]) for name in ("left", "right")[:many])
+        attributes = (("tint", SIZE[1]),) if chance.random() < 0.3 else ()
+        names = [name for name, _ in attributes]
+        names.extend(f"{slot}.size" for slot, _ in slots)
+        names.extend(f"plug.{name}" for name, _ in ports[plug][1])
+        rules = tuple(condition_by_chance(names, chance) for _ in range(chance.choice((0, 0, 1)) if names else 0))
+        charges = tuple((condition_by_chance(names, chance), chance.randint(0, 3)) for _ in range(1 if names else 0))
+        components.append((f"c{number}", ports[plug][0], attributes, slots, rules, (), chance.randint(0, 4), charges))
+    return (ports, tuple(components), "base")

@@ -8,7 +8,9 @@ from slotwise.catalogues import Catalogue
 from slotwise.choices import candidates_of
 from slotwise.configurations import Configuration
 from slotwise.domains import variables_of
-from tests.helpers import CABINETS, LAMPS, RACKS, all_products, in_order, is_plain, paths_in, rank
+from tests.helpers import (
+    CABINETS, LAMPS, RACKS, all_products, definition_by_chance, in_order, is_plain, paths_in, rank, row_definition,
+)
 
 LAMP = Catalogue(LAMPS)
 RACK = Catalogue(RACKS)
@@ -16,16 +18,6 @@ CABINET = Catalogue(CABINETS)
 TOP = ("top",)
 END = ("top", "end")
 STAND = (("stand", ("small",)), ("bulb", ("small",)))
-
-
-def row_definition(needs):
-    """Components in a row: each one needs the next one as often as told, the last one nothing."""
-    ports = (("first", ()), ("second", ()), ("third", ()), ("fourth", ()), ("fifth", ()), ("sixth", ()))
-    components = []
-    for number, many in enumerate(needs + (0,)):
-        slots = tuple((f"s{at}", ports[number + 1][0]) for at in range(many))
-        components.append((f"c{number}", ports[number][0], (), slots, (), (), 1, ()))
-    return (ports, tuple(components), "first")
 
 
 def state_of(configuration):
@@ -612,6 +604,35 @@ class TestQuestions(TestCase):
         desk = Configuration(Catalogue((ports, components[:5] + (leaf,), product)))
         with self.assertRaises(errors.TooManyTrees):
             desk.product_count()
+
+    def test_as_the_methods_of_a_catalogue(self):
+        chance = random.Random(151)
+        for catalogue in [LAMP, RACK, CABINET] + [Catalogue(definition_by_chance(chance)) for _ in range(60)]:
+            if catalogue.price_range() is None:
+                self.assertRaises(errors.NoProducts, Configuration, catalogue)
+                continue
+            desk = Configuration(catalogue)
+            # A budget makes no difference for them.
+            for budget in (None, catalogue.price_range()[0]):
+                desk.set_budget(budget)
+                self.assertEqual(desk.price_range(), catalogue.price_range())
+                self.assertEqual(desk.cheapest(), catalogue.cheapest())
+                self.assertEqual(desk.product_count(), catalogue.product_count())
+                self.assertEqual(desk.first_products(), catalogue.first_products())
+                self.assertEqual(
+                    desk.first_products(many=3, most=4), catalogue.first_products(many=3, most=4)
+                )
+            self.assertIs(catalogue.cheapest() in desk, True)
+
+    def test_they_raise_the_same_errors(self):
+        catalogue = Catalogue(row_definition((3, 3, 3, 3)))
+        desk = Configuration(catalogue)
+        for ask in (catalogue, desk):
+            with self.assertRaises(errors.TooManyParts) as caught:
+                ask.cheapest()
+            self.assertEqual(caught.exception.count, 121)
+            self.assertEqual(ask.price_range(), (121, 121))
+            self.assertEqual(ask.first_products(), ())
 
     def test_several_configurations_of_one_catalogue(self):
         one, other = Configuration(LAMP), Configuration(LAMP)

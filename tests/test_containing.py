@@ -193,10 +193,10 @@ class TestCheapestWithAll(TestCase):
         some = 0
         for _ in range(800):
             family = finite_family_by_chance(chance, states=4, variants=9)
-            flat = (family[0], family[1], tuple(
-                (plug, slots, None if price is None else min(price, chance.randint(0, 1))) for plug, slots, price in family[2]
-            ))
-            for each in (family, flat):
+            flat = tuple(
+                (plug, slots, None if price is None else chance.randint(0, 1)) for plug, slots, price in family[2]
+            )
+            for each in (family, family[:2] + (flat,)):
                 groups = groups_by_chance(each, chance)
                 wanted = covering(all_products(each, 15), groups)
                 found = cheapest_with_all(each, groups)

@@ -124,7 +124,8 @@ class TestCurveOf(unittest.TestCase):
         free = (1, (0,), ((0, (0, 0), 0), (0, (0,), 0), (0, (), 0)))
         self.assertEqual(curve_of(free, (1,)), ((0, 0, (2,)),))
         self.assertEqual(curve_of(free, (2,)), ((1, 0, (2,)),))
-        self.assertEqual(curve_of((2, (0,), ((0, (), 1), (0, (1,), 0), (1, (), 0))), (1, 2)), ((0, 1, (0,)), (2, 0, (1, 2))))
+        chain = (2, (0,), ((0, (), 1), (0, (1,), 0), (1, (), 0)))
+        self.assertEqual(curve_of(chain, (1, 2)), ((0, 1, (0,)), (2, 0, (1, 2))))
 
     def test_several_roots(self):
         family = (3, (0, 2), ((2, (), 3), (0, (), 3), (2, (), 1), (0, (1,), 0), (1, (), 1)))
@@ -172,7 +173,8 @@ class TestCurveOf(unittest.TestCase):
         # Both corners have too many parts: the one without marked parts has 101, the other one far more.
         shift = 7
         rows = row_of_101()[2][:-1] + ((6, (), 1),)
-        rows += tuple((plug + shift, tuple(state + shift for state in slots), 0) for plug, slots, _ in long_row()[2][:30])
+        for plug, slots, _ in long_row()[2][:30]:
+            rows += ((plug + shift, tuple(state + shift for state in slots), 0),)
         rows += ((shift + 30, (), 0), (0, (shift,), 0))
         family = (shift + 31, (0,), rows)
         self.check_count(101, family, (len(rows) - 1,))

@@ -2,7 +2,10 @@
 
 import importlib
 import inspect
+import pathlib
 import unittest
+
+PACKAGE = pathlib.Path(__file__).resolve().parent.parent / "slotwise"
 
 INTERFACE = {
     "conditions": ("measure(expression)", "variables_in(expression)", "kind_of(expression, kinds)",
@@ -37,6 +40,13 @@ INTERFACE = {
     "counting": ("counts_by_size(family, state, most)", "tree_count(family, state)", "product_count(family)"),
     "ranking": ("trees_of_size(family, state, parts)", "least_by_size(family, state, most)",
                 "first_products(family, *, many=10, most=8)"),
+    "conflicts": ("conflicts_of(family, names, demands, budget)", "corrections_of(family, names, demands, budget)"),
+    "certificates": ("certificate_of(family, names, demands, budget)", "least_certificate(family, names, demands)",
+                     "is_sound(family, names, demands, budget, certificate)"),
+    "comparison": ("change_family(first, second)", "only_in(first, second)", "price_change(first, second)",
+                   "balance(first, second)", "first_changed(first, second)"),
+    "versions": ("aligned(first, second)", "compare(first, second)", "first_change(first, second)",
+                 "balanced(first, second)"),
     "demands": ("part_at(family, names, tree, path)", "satisfies(family, names, tree, demands)", "paths_of(demands)"),
     "special": ("specialised(family, names, demands)", "least_with(family, names, demands)",
                 "first_with(family, names, demands)"),
@@ -47,12 +57,20 @@ INTERFACE = {
     "journals": ("replayed(catalogue, journal)",),
 }
 
-# For each class its module, its methods, and its properties. Of a catalogue there is what is needed so far.
+# For each class its module, its methods, and its properties.
 CLASSES = {
     "Board": ("boards", ("__init__(self, family)", "reprice(self, variant, price)", "undo(self)", "cheapest(self)"),
               ("family", "weights", "changes")),
-    "Catalogue": ("catalogues", ("__init__(self, definition)", "product_of(self, tree)", "tree_of(self, product)"),
-                  ("definition", "family", "variants", "slot_names")),
+    "Walk": ("walks", ("__init__(self, family, most)", "step(self)", "take(self, many)"), ("given",)),
+    "Catalogue": (
+        "catalogues",
+        ("__init__(self, definition)", "__len__(self)", "__iter__(self)", "__contains__(self, product)",
+         "variants_of(self, component)", "number_of(self, component, values)", "product_of(self, tree)",
+         "tree_of(self, product)", "price_of(self, product)", "bill(self, product)", "price_range(self)",
+         "cheapest(self)", "cheapest_with(self, component, values)", "first_products(self, *, many=10, most=8)",
+         "dead_components(self)", "core_components(self)", "product_count(self)", "price_table(self)"),
+        ("definition", "family", "states", "variants", "slot_names"),
+    ),
     "Configuration": (
         "configurations",
         ("__init__(self, catalogue)", "__len__(self)", "__iter__(self)", "__contains__(self, product)",
@@ -66,6 +84,13 @@ CLASSES = {
 
 
 class TestInterface(unittest.TestCase):
+    def test_all_modules(self):
+        listed = set(INTERFACE) | {module for module, _, _ in CLASSES.values()} | {"errors"}
+        # What is not part of the interface is one module that the others share.
+        found = {path.stem for path in PACKAGE.glob("*.py")}
+        self.assertEqual(found - listed, {"__init__", "families"})
+        self.assertEqual(listed - found, set())
+
     def test_names_and_arguments(self):
         for module_name, functions in INTERFACE.items():
             module = importlib.import_module("slotwise." + module_name)
@@ -80,6 +105,8 @@ class TestInterface(unittest.TestCase):
         for name, (module_name, methods, properties) in CLASSES.items():
             made = getattr(importlib.import_module("slotwise." + module_name), name)
             self.assertEqual(made.__module__, "slotwise." + module_name)
+            public = {told for told in vars(made) if not told.startswith("_")}
+            self.assertEqual(public, {told.partition("(")[0] for told in methods if told[0] != "_"} | set(properties))
             for told in methods:
                 method = vars(made)[told.partition("(")[0]]
                 self.assertEqual(method.__name__ + str(inspect.signature(method)), told)

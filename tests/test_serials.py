@@ -53,7 +53,8 @@ class TestSerials(unittest.TestCase):
 
     def test_several_roots(self):
         self.assertEqual(self.check_all(ROOTS, 8), 30)
-        self.assertEqual([product_at(ROOTS, serial, 3) for serial in range(5)], [(2,), (6,), (1, 3), (0, 6, 6), (1, 5, 3)])
+        expected = [(2,), (6,), (1, 3), (0, 6, 6), (1, 5, 3)]
+        self.assertEqual([product_at(ROOTS, serial, 3) for serial in range(5)], expected)
 
     def test_no_root_and_no_product(self):
         for family in (NOTHING, EMPTY_SLOTS, (4, (), STANDS[2])):

@@ -44,7 +44,8 @@ class TestCostOf(unittest.TestCase):
     def test_examples(self):
         self.assertEqual(cost_of(STANDS, (None, 6, None, None), 6), 10)
         self.assertEqual(margins_of(STANDS, (36, 6, 10, 1)), (0, 9, 12, 12, 17, 17, 0, 0, 5, 0))
-        self.assertEqual(margins_of(STANDS, (None, 6, None, None)), (None, None, 12, None, 17, None, None, 0, None, None))
+        expected = (None, None, 12, None, 17, None, None, 0, None, None)
+        self.assertEqual(margins_of(STANDS, (None, 6, None, None)), expected)
 
     def test_a_state_in_several_slots(self):
         self.assertEqual(cost_of(MIXED, (0, 10, 100), 0), 116)
@@ -203,8 +204,9 @@ class TestLeastPrices(unittest.TestCase):
         for family in families_by_chance(200, states=4, variants=10, seed=48):
             table = least_prices(family)
             self.assertIs(is_floor(family, table), True)
-            self.assertEqual([price is not None for price in table], [weight is not None for weight in least_weights(family)])
-            self.assertEqual(tuple(state for state, price in enumerate(table) if price is not None), filled_states(family))
+            self.assertEqual([price is None for price in table], [weight is None for weight in least_weights(family)])
+            had = tuple(state for state, price in enumerate(table) if price is not None)
+            self.assertEqual(had, filled_states(family))
             for state in filled_states(family):
                 higher = table[:state] + (table[state] + 1,) + table[state + 1:]
                 self.assertIs(is_floor(family, higher), False)
