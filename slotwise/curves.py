@@ -18,24 +18,19 @@ def _corners(family, marked):
     if first is None:
         return []
     last = _least_corner(family, marked, (0, 1))
-    corners = [first] if first[:2] == last[:2] else [first, last]
+    if first[:2] == last[:2]:
+        return [first]
+    corners = [first, last]
     pending = [(first, last)]
     while pending:
         left, right = pending.pop()
-        scales = (left[1] - right[1], right[0] - left[0])
-        if scales[1] > 0:
-            between = _least_corner(family, marked, scales)
-            # By these scales both corners have the same sum; if none is less, there is no corner between them.
-            if _sum_of(between, scales) < _sum_of(left, scales):
-                corners.append(between)
-                pending.append((left, between))
-                pending.append((between, right))
+        # By these scales both corners have the same sum. If it is the least one, the left corner is found again.
+        between = _least_corner(family, marked, (left[1] - right[1], right[0] - left[0]))
+        if between[:2] != left[:2]:
+            corners.append(between)
+            pending.append((left, between))
+            pending.append((between, right))
     return corners
-
-
-def _sum_of(corner, scales):
-    """The sum of the number of marked parts and the price by the scales."""
-    return scales[0] * corner[0] + scales[1] * corner[1]
 
 
 def _least_corner(family, marked, scales):

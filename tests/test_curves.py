@@ -124,6 +124,7 @@ class TestCurveOf(unittest.TestCase):
         free = (1, (0,), ((0, (0, 0), 0), (0, (0,), 0), (0, (), 0)))
         self.assertEqual(curve_of(free, (1,)), ((0, 0, (2,)),))
         self.assertEqual(curve_of(free, (2,)), ((1, 0, (2,)),))
+        self.assertEqual(curve_of((1, (0,), ((0, (), 0), (0, (), 0))), (0,)), ((0, 0, (1,)),))
         chain = (2, (0,), ((0, (), 1), (0, (1,), 0), (1, (), 0)))
         self.assertEqual(curve_of(chain, (1, 2)), ((0, 1, (0,)), (2, 0, (1, 2))))
 
@@ -146,6 +147,19 @@ class TestCurveOf(unittest.TestCase):
         for many, price, tree in curve:
             self.assertTrue(is_product(family, tree))
             self.assertEqual(point_of(family, range(1, 60, 2), tree), (many, price))
+
+    def test_steep_and_flat_curves(self):
+        # Chains of marked parts, each in the only slot of the part before.
+        chain = tuple((state, (state + 1,), 0) for state in range(1, 20)) + ((20, (), 0),)
+        flat = (21, (0,), ((0, (), 2), (0, (18,), 1), (0, (1,), 0)) + chain)
+        marked = tuple(range(3, 23))
+        self.assertEqual([row[:2] for row in curve_of(flat, marked)], [(0, 2), (3, 1), (20, 0)])
+        steep = (21, (0,), ((0, (), 900), (0, (18,), 90), (0, (1,), 0)) + chain)
+        self.assertEqual([row[:2] for row in curve_of(steep, marked)], [(0, 900), (3, 90), (20, 0)])
+        # One more, and the middle one is on or above the line from (0, 34) to (20, 14).
+        for price, corners in ((30, 3), (31, 2), (32, 2)):
+            line = (21, (0,), ((0, (), 34), (0, (18,), price), (0, (1,), 14)) + chain)
+            self.assertEqual(len(curve_of(line, marked)), corners)
 
     def test_prices_of_40_digits(self):
         large = 10 ** 40 - 1
@@ -179,6 +193,14 @@ class TestCurveOf(unittest.TestCase):
         family = (shift + 31, (0,), rows)
         self.check_count(101, family, (len(rows) - 1,))
         self.check_count(1 + (3 ** 31 - 1) // 2, family, tuple(range(7)))
+
+    def test_numbers_of_marked_parts_beyond_all_bounds(self):
+        rows = tuple((state, (state + 1,) * 3, 0) for state in range(38)) + ((38, (), 0),)
+        family = (40, (39,), rows + ((39, (), 100), (39, (8,), 50), (39, (0,), 0)))
+        self.check_count(1 + (3 ** 31 - 1) // 2, family, tuple(range(39)))
+        # With the parts of one state marked, the numbers are 0, 3 ** 25 and 3 ** 33.
+        self.check_count(1 + (3 ** 31 - 1) // 2, family, (33,))
+        self.check_count(1 + (3 ** 39 - 1) // 2, family, ())
 
     def test_against_all_products_of_finite_families(self):
         chance = random.Random(61)

@@ -4,25 +4,8 @@ import pathlib
 import unittest
 
 from slotwise import errors
-from slotwise.definitions import check_definition
-from slotwise.listing import read_definition, show_definition
-from tests.helpers import CABINETS
 
 EXAMPLES = pathlib.Path(__file__).resolve().parent / "examples.txt"
-# The printed text of point 85.
-CABINETS_TEXT = """\
-product niche
-port niche
-  width: 88 to 90
-component cabinet
-  plug niche
-  wood: "oak", "pine"
-  shelves: 0 to 3
-  rule wood = "oak" implies shelves < 3
-  table plug.width, shelves: 88, 0; 88, 2; 90, 2; 90, 3; 100, 1
-  price 200
-  charge 15 when shelves > 0
-  charge 60 when wood = "oak" and plug.width * 2 > 178"""
 
 
 def examples():
@@ -70,11 +53,6 @@ class TestExamples(unittest.TestCase):
         without = {"slotwise/" + name for name in modules} - headings
         self.assertEqual(without, {"slotwise/__init__.py", "slotwise/errors.py", "slotwise/families.py"})
         self.assertGreater(len(examples()), 200)
-
-    def test_the_printed_text(self):
-        check_definition(CABINETS)
-        self.assertEqual(show_definition(CABINETS), CABINETS_TEXT)
-        self.assertEqual(read_definition(CABINETS_TEXT), CABINETS)
 
 
 if __name__ == "__main__":

@@ -157,6 +157,52 @@ class TestLanguage(unittest.TestCase):
             for word in BARRED_WORDS:
                 self.assertNotIn(word, text)
 
+    def test_each_name_is_bound_once(self):
+        for path, _, tree in files():
+            bound = []
+            for statement in tree.body:
+                if isinstance(statement, ast.ImportFrom):
+                    bound.extend(name.name for name in statement.names)
+                elif isinstance(statement, (ast.FunctionDef, ast.ClassDef)):
+                    bound.append(statement.name)
+                elif isinstance(statement, ast.Assign):
+                    bound.extend(target.id for target in statement.targets)
+            self.assertEqual(len(bound), len(set(bound)), path.name)
+
+    def test_no_local_name_is_that_of_an_import_or_a_class(self):
+        for path, _, tree in files():
+            taken = {name.name for node in tree.body if isinstance(node, ast.ImportFrom) for name in node.names}
+            taken |= {node.name for node in tree.body if isinstance(node, ast.ClassDef)}
+            for node in ast.walk(tree):
+                if isinstance(node, ast.arg):
+                    self.assertNotIn(node.arg, taken, (path.name, node.lineno))
+                if isinstance(node, ast.Name) and isinstance(node.ctx, ast.Store):
+                    self.assertNotIn(node.id, taken, (path.name, node.lineno))
+
+    def test_no_two_files_import_from_each_other(self):
+        imported = {}
+        for path, _, tree in files():
+            modules = [node.module for node in tree.body if isinstance(node, ast.ImportFrom)]
+            imported[path.stem] = [module.split(".")[1] for module in modules if module.startswith("slotwise.")]
+        for start in imported:
+            seen = set()
+            pending = list(imported[start])
+            while pending:
+                module = pending.pop()
+                self.assertNotEqual(module, start)
+                if module not in seen:
+                    seen.add(module)
+                    pending.extend(imported[module])
+
+    def test_what_a_class_with_a_length_rules_out(self):
+        for path, _, tree in files():
+            for node in ast.walk(tree):
+                if isinstance(node, ast.Attribute):
+                    self.assertNotEqual(node.attr, "sort", (path.name, node.lineno))
+                if isinstance(node, ast.ImportFrom):
+                    names = {name.name for name in node.names}
+                    self.assertEqual(names & {"product", "combinations", "permutations"}, set(), path.name)
+
     def test_no_loop_changes_what_it_walks(self):
         for path, _, tree in files():
             for function in ast.walk(tree):
