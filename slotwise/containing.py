@@ -51,7 +51,7 @@ def _divided(family, groups):
     for number in useful_variants(family):
         plug, slots, price = family[2][number]
         for duty in range(1 << len(groups)):
-            for shares in _divisions(duty & ~covered[number], len(slots)):
+            for shares in _divisions(duty - (duty & covered[number]), len(slots)):
                 inside = [(state << len(groups)) + share for state, share in zip(slots, shares)]
                 rows.append(((plug << len(groups)) + duty, tuple(inside), price))
                 originals.append(number)
@@ -74,7 +74,7 @@ def _divisions(duty, many):
     return [
         (share,) + others
         for share in range(duty + 1)
-        if share & ~duty == 0
+        if share & duty == share
         for others in _divisions(duty - share, many - 1)
     ]
 
