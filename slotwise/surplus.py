@@ -63,5 +63,5 @@ def _counted(family, chosen, root):
             number = chosen[state]
             counts[number] = counts.get(number, 0) + many
             for other in family[2][number][1]:
-                waiting[other] += many
+                waiting[other] = waiting[other] + many
     return tuple(sorted(counts.items()))

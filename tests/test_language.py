@@ -94,6 +94,73 @@ def changed_names(statements):
                 yield from walked_names(node.target)
 
 
+def things_of(node):
+    """The names of what the expression can be, or can be an item of, if it is not made anew."""
+    inner = ()
+    if isinstance(node, ast.Name):
+        yield node.id
+    elif isinstance(node, (ast.Attribute, ast.Starred)):
+        inner = (node.value,)
+    elif isinstance(node, ast.Subscript) and not isinstance(node.slice, ast.Slice):
+        inner = (node.value,)
+    elif isinstance(node, ast.IfExp):
+        inner = (node.body, node.orelse)
+    elif isinstance(node, (ast.BoolOp, ast.Dict)):
+        inner = node.values
+    elif isinstance(node, (ast.Tuple, ast.List)):
+        inner = node.elts
+    elif isinstance(node, ast.Call) and isinstance(node.func, ast.Name):
+        inner = node.args if node.func.id in ("enumerate", "zip", "reversed", "min", "max") else ()
+    elif isinstance(node, ast.Call) and isinstance(node.func, ast.Attribute):
+        if node.func.attr in ("items", "keys", "values", "get", "pop", "setdefault"):
+            inner = [node.func.value] + node.args[1:]
+    for part in inner:
+        yield from things_of(part)
+
+
+def origins_of(function):
+    """For each name in the function all names of what it can be, or can be an item of, by assignments and loops."""
+    pairs = []
+    for node in ast.walk(function):
+        if isinstance(node, ast.Assign):
+            pairs.extend((target, node.value) for target in node.targets)
+        elif isinstance(node, (ast.For, ast.comprehension)):
+            pairs.append((node.target, node.iter))
+    origins = {}
+    for target, value in pairs:
+        # Where an item is assigned, the whole can have what is assigned as an item.
+        for name in things_of(target):
+            origins.setdefault(name, {name}).update(things_of(value))
+    return origins
+
+
+def all_origins(origins, node):
+    """The names of what the expression can be or can be an item of, directly or through other names."""
+    found = set()
+    pending = list(things_of(node))
+    while pending:
+        name = pending.pop()
+        if name not in found:
+            found.add(name)
+            pending.extend(origins.get(name, ()))
+    return found
+
+
+def rows_that_get_what_they_change(function):
+    """The rows in which `extend`, `update`, `+=` or `|=` can get what they change, by the form of the function."""
+    origins = origins_of(function)
+    for node in ast.walk(function):
+        pairs = []
+        if isinstance(node, ast.AugAssign) and isinstance(node.op, (ast.Add, ast.BitOr)):
+            pairs = [(node.target, node.value)]
+        elif isinstance(node, ast.Call) and isinstance(node.func, ast.Attribute):
+            if node.func.attr in ("extend", "update"):
+                pairs = [(node.func.value, argument) for argument in node.args]
+        for changed, given in pairs:
+            if all_origins(origins, changed) & all_origins(origins, given):
+                yield node.lineno
+
+
 class TestLanguage(unittest.TestCase):
     def test_the_folder_contains_only_its_files(self):
         for path in PACKAGE.iterdir():
@@ -213,6 +280,35 @@ class TestLanguage(unittest.TestCase):
                             changed = set(changed_names(loop.body))
                             for name in walked_names(loop.iter):
                                 self.assertEqual(one_list.get(name, {name}) & changed, set(), (path.name, loop.lineno))
+
+    def test_nothing_gets_what_it_changes(self):
+        for path, _, tree in files():
+            for function in ast.walk(tree):
+                if isinstance(function, ast.FunctionDef):
+                    self.assertEqual(list(rows_that_get_what_they_change(function)), [], path.name)
+
+    def check_row(self, *rows, told):
+        """Check whether the last one of these rows, and no other one, is told as one that can get what it changes."""
+        function = ast.parse("\n".join(("def f(xs, ys, at):",) + rows)).body[0]
+        found = list(rows_that_get_what_they_change(function))
+        self.assertEqual(found, [len(rows) + 1] if told else [], rows)
+
+    def test_which_rows_get_what_they_change(self):
+        many = "    many = xs[at] - 1 if at else xs[at]"
+        self.check_row(many, "    xs[0] += many", told=True)
+        self.check_row(many, "    xs[0] = xs[0] + many", told=False)
+        self.check_row("    xs += xs", told=True)
+        self.check_row("    xs.extend(xs)", told=True)
+        self.check_row("    xs.extend(list(xs))", told=False)
+        self.check_row("    xs.extend(xs[1:])", told=False)
+        self.check_row("    xs[at].update(xs[0])", told=True)
+        self.check_row("    xs |= ys or xs", told=True)
+        self.check_row("    for at, row in enumerate(xs):", "        row += xs[0]", told=True)
+        self.check_row("    for row in xs:", "        ys += row", told=False)
+        self.check_row("    ys[at] = xs", "    xs += ys[0]", told=True)
+        self.check_row("    ys = xs.pop()", "    xs.extend(ys)", told=True)
+        self.check_row("    xs[at] += 1", told=False)
+        self.check_row("    xs.extend(ys[at])", told=False)
 
     def test_module_level(self):
         allowed = (ast.Expr, ast.ImportFrom, ast.FunctionDef, ast.ClassDef, ast.Assign)
